@@ -1,0 +1,1 @@
+"""Boxes chosen for names, and whether every run tells the same."""
