@@ -28,8 +28,10 @@ def check_program(program):
         raise BadProgram(-1)
     names = program[1]
     rows = program[2]
+    # A row that no program has can't be told either, even where too many rows are handed in.
+    many = min(len(rows), ROWS_MOST)
     for at, row in enumerate(rows):
-        if at == ROWS_MOST or not row_can_be(row, names, len(rows)):
+        if at == ROWS_MOST or not row_can_be(row, names, many):
             raise BadProgram(at)
 
 

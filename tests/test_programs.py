@@ -153,6 +153,16 @@ class Refused(unittest.TestCase):
     def test_a_wrong_row_and_a_25th(self):
         refuses_program(self, with_row((0, 1, (("say", 0),) * 25), 23, ("say", 1)), 23)
 
+    def test_no_row_tells_row_24_among_too_many_rows(self):
+        for many in (25, 26, 40):
+            rows = (0, 1, (("say", 0),) * many)
+            for told in (24, 25, 39, 40):
+                refuses_program(self, with_row(rows, 1, ("go", told)), 1)
+                refuses_program(self, with_row(rows, 23, ("if", 0, told)), 23)
+                refuses_program(self, with_row(rows, 24, ("go", told)), 24)
+            refuses_program(self, with_row(rows, 1, ("go", 23)), 24)
+            refuses_program(self, with_row(rows, 1, ("if", 0, 23)), 24)
+
 
 if __name__ == "__main__":
     unittest.main()
