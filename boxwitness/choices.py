@@ -25,9 +25,14 @@ WITHOUT_BEHIND = ("go", "if", "end")
 def check_all(program, frame, choice):
     """Refuse what is no program, no frame or no choice, in this order."""
     check_program(program)
+    check_frame(frame)
+    check_choice(program, frame, choice)
+
+
+def check_frame(frame):
+    """Refuse what is no frame."""
     if not frame_can_be(frame):
         raise BadFrame("no frame")
-    check_choice(program, frame, choice)
 
 
 def frame_can_be(frame):

@@ -10,6 +10,11 @@ from boxwitness.programs import next_rows
 def paper(program, frame, choice):
     """Tell for each row what lies where ahead of it on all ways that lead there."""
     check_all(program, frame, choice)
+    return parts_of(program, frame, choice)
+
+
+def parts_of(program, frame, choice):
+    """The paper of a choice that was checked before."""
     rows = program[2]
     parts = [None] * len(rows)
     parts[0] = first_layout(frame, choice[0])
@@ -37,6 +42,16 @@ def shows(program, frame, choice, told):
     check_paper(program, frame, told)
     if not is_covered(told[0], first_layout(frame, choice[0])):
         return False
+    return rows_show(program, frame, choice, told)
+
+
+def is_let_by(program, frame, choice):
+    """Whether a choice that was checked before is let by."""
+    return rows_show(program, frame, choice, parts_of(program, frame, choice))
+
+
+def rows_show(program, frame, choice, told):
+    """Whether each row's part is enough."""
     return all(row_shows(program, frame, choice, told, at) for at in range(len(told)))
 
 

@@ -84,9 +84,15 @@ def next_row(row, at, jumps):
     return at + 1
 
 
-def next_rows(rows, at):
-    """The numbers of all rows that may come behind this one on some way."""
+def steps_of(rows, at):
+    """For each row that may come behind this one on some way the truths that this adds to the way, and its number."""
     if at_end(rows, at):
         return []
-    both = {next_row(rows[at], at, False), next_row(rows[at], at, True)}
-    return [after for after in sorted(both) if after < len(rows)]
+    ways = [(False,), (True,)] if rows[at][0] == "if" else [()]
+    steps = [(truths, next_row(rows[at], at, truths == (True,))) for truths in ways]
+    return [(truths, after) for truths, after in steps if after < len(rows)]
+
+
+def next_rows(rows, at):
+    """The numbers of all rows that may come behind this one on some way."""
+    return [after for truths, after in steps_of(rows, at)]

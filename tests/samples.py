@@ -1,7 +1,11 @@
 """What several tests need: sample programs, plain choices, and how refusals are asked for."""
 
-from boxwitness.errors import BadChoice, BadFrame, BadProgram
+from boxwitness.checking import checked
+from boxwitness.errors import BadChoice, BadCount, BadFrame, BadProgram, TooMany
+from boxwitness.keeping import Witness
 from boxwitness.marks import walk
+from boxwitness.mends import least, made, renumbered
+from boxwitness.notes import read_choice, written, written_choice
 from boxwitness.papers import paper, shows
 from boxwitness.programs import names_of
 from boxwitness.runs import run, run_boxes
@@ -69,19 +73,53 @@ def empty_paper(program, frame):
     return [((),) * (frame[0] + frame[1]) for row in program[2]]
 
 
-# All that take a program, and all that take a frame and a choice, with the rest as it should be where it can.
+def least_or_too_many(program, frame, choice):
+    """What least tells, where the program has no more rows than it takes."""
+    try:
+        return least(program, frame, choice, 0)
+    except TooMany:
+        return None
+
+
+def renumbered_or_refused(program, frame, choice):
+    """Nothing, where nothing but the order is refused."""
+    try:
+        return renumbered(program, frame, choice, None)
+    except BadCount:
+        return None
+
+
+# All that take a program, and all that take a frame and a choice, with the rest as it should be where it can,
+# and else something wrong that is refused behind these.
 TAKES_PROGRAM = (
     lambda program: run(program, (), 10),
     lambda program: run_boxes(program, FRAME, ((), ()), (), 10, []),
     lambda program: walk(program, FRAME, ((), ()), []),
     lambda program: paper(program, FRAME, ((), ())),
     lambda program: shows(program, FRAME, ((), ()), []),
+    lambda program: checked(program, FRAME, ((), ())),
+    lambda program: made(program, FRAME),
+    lambda program: least(program, FRAME, ((), ()), 0),
+    lambda program: renumbered(program, FRAME, ((), ()), (0, 1, 2, 3)),
+    lambda program: Witness(program, FRAME, ((), ())),
+    lambda program: written(program),
+    lambda program: written_choice(program, FRAME, ((), ())),
+    lambda program: read_choice(program, FRAME, "places"),
 )
 TAKES_CHOICE = (
     lambda program, frame, choice: run_boxes(program, frame, choice, (1,) * program[0], 10, []),
     lambda program, frame, choice: walk(program, frame, choice, []),
     lambda program, frame, choice: paper(program, frame, choice),
     lambda program, frame, choice: shows(program, frame, choice, [None] * len(program[2])),
+    lambda program, frame, choice: checked(program, frame, choice),
+    lambda program, frame, choice: least_or_too_many(program, frame, choice),
+    lambda program, frame, choice: renumbered_or_refused(program, frame, choice),
+    lambda program, frame, choice: Witness(program, frame, choice),
+    lambda program, frame, choice: written_choice(program, frame, choice),
+)
+TAKES_FRAME = TAKES_CHOICE + (
+    lambda program, frame, choice: made(program, frame),
+    lambda program, frame, choice: read_choice(program, frame, "places"),
 )
 
 
@@ -95,7 +133,7 @@ def refuses_program(test, program, row):
 
 def refuses_frame(test, program, frame):
     """Each function that takes a frame refuses this one."""
-    for function in TAKES_CHOICE:
+    for function in TAKES_FRAME:
         with test.subTest(frame=frame), test.assertRaises(BadFrame):
             function(program, frame, bare(program))
 

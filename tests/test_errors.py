@@ -4,11 +4,15 @@ import copy
 import unittest
 
 from boxwitness import errors
-from boxwitness.errors import BadChoice, BadCount, BadFrame, BadGiven, BadPaper, BadProgram
+from boxwitness.checking import checked
+from boxwitness.errors import BadChoice, BadCount, BadFrame, BadGiven, BadPaper, BadProgram, BadText, NoRoom, TooMany
+from boxwitness.keeping import Witness
 from boxwitness.marks import walk
+from boxwitness.mends import least, made, renumbered
+from boxwitness.notes import read_choice, written, written_choice
 from boxwitness.papers import paper, shows
 from boxwitness.runs import run, run_boxes
-from samples import FRAME, LOOP, bare, empty_paper
+from samples import FRAME, LOOP, bare, empty_paper, with_group
 
 WITH_ROW = ("BadProgram", "BadChoice", "BadPaper", "BadText")
 WITHOUT_ROW = ("BadFrame", "BadGiven", "BadCount", "NoRoom", "TooMany")
@@ -34,6 +38,7 @@ BAD_CHOICE = ((), ())
 BAD_GIVEN = (1000,)
 BAD_FUEL = 1001
 BAD_JUNK = [1000]
+SHORT = (1, 1, (("say", 0),))
 
 
 class Order(unittest.TestCase):
@@ -62,6 +67,48 @@ class Order(unittest.TestCase):
         good = [LOOP, FRAME, bare(LOOP), paper(LOOP, FRAME, bare(LOOP))]
         bad = [BAD_PROGRAM, BAD_FRAME, BAD_CHOICE, []]
         self.refused_in_turn(shows, good, bad, [BadProgram, BadFrame, BadChoice, BadPaper])
+
+    def test_checked_witness_and_written_choice(self):
+        good = [LOOP, FRAME, bare(LOOP)]
+        bad = [BAD_PROGRAM, BAD_FRAME, BAD_CHOICE]
+        for function in (checked, Witness, written_choice):
+            self.refused_in_turn(function, good, bad, [BadProgram, BadFrame, BadChoice])
+
+    def test_made(self):
+        self.refused_in_turn(made, [SHORT, (3, 1, ())], [BAD_PROGRAM, BAD_FRAME], [BadProgram, BadFrame])
+
+    def test_no_room_is_refused_last(self):
+        self.refused_in_turn(made, [SHORT, (3, 1, ())], [BAD_PROGRAM, (2, 0, ())], [BadProgram, NoRoom])
+        with self.assertRaises(BadFrame):
+            made(SHORT, (2, 0, (2,)))
+
+    def test_least(self):
+        good = [SHORT, FRAME, bare(SHORT), 2]
+        bad = [BAD_PROGRAM, BAD_FRAME, BAD_CHOICE, 3]
+        self.refused_in_turn(least, good, bad, [BadProgram, BadFrame, BadChoice, BadCount])
+
+    def test_too_many_is_refused_last(self):
+        good = [LOOP, FRAME, bare(LOOP), 2]
+        with self.assertRaises(TooMany):
+            least(*good)
+        for at, wrong, kind in ((1, BAD_FRAME, BadFrame), (2, BAD_CHOICE, BadChoice), (3, 3, BadCount), (3, -1, BadCount)):
+            with self.assertRaises(kind):
+                least(*good[:at], wrong, *good[at + 1:])
+
+    def test_renumbered(self):
+        good = [LOOP, FRAME, bare(LOOP), (3, 2, 1, 0)]
+        bad = [BAD_PROGRAM, BAD_FRAME, BAD_CHOICE, (0, 0, 1, 2)]
+        self.refused_in_turn(renumbered, good, bad, [BadProgram, BadFrame, BadChoice, BadCount])
+
+    def test_written(self):
+        self.refused_in_turn(written, [LOOP], [BAD_PROGRAM], [BadProgram])
+
+    def test_read_choice(self):
+        good = [SHORT, FRAME, "places box 0\n | 0 | "]
+        bad = [BAD_PROGRAM, BAD_FRAME, "places box 0\n | 00 | "]
+        self.refused_in_turn(read_choice, good, bad, [BadProgram, BadFrame, BadText])
+        bad = [BAD_PROGRAM, BAD_FRAME, "places box 0\n | 9 | "]
+        self.refused_in_turn(read_choice, good, bad, [BadProgram, BadFrame, BadChoice])
 
     def refused_in_turn(self, function, good, bad, kinds):
         """Whichever of the later ones are wrong too, the first wrong one is refused."""
@@ -106,6 +153,31 @@ class HandedIn(unittest.TestCase):
         with self.assertRaises(BadCount):
             run(LOOP, (3,), -1)
         self.assertEqual(run(LOOP, (3,), 100), told)
+
+    def test_asked_again_behind_refusals(self):
+        bent = with_group(bare(LOOP), 3, ((), (3,), ()))
+        asks = (
+            (checked, (LOOP, FRAME, bent), (LOOP, FRAME, BAD_CHOICE)),
+            (made, (SHORT, (3, 1, ())), (SHORT, (2, 1, ()))),
+            (least, (SHORT, FRAME, ((("box", 1),), (((), (0,), ()),)), 1), (SHORT, FRAME, bare(SHORT), 3)),
+            (renumbered, (LOOP, FRAME, bent, (3, 2, 1, 0)), (LOOP, FRAME, bent, (3, 2, 1, 1))),
+            (written_choice, (LOOP, FRAME, bent), (LOOP, FRAME, BAD_CHOICE)),
+            (read_choice, (SHORT, FRAME, "places box 0\n | 0 | "), (SHORT, FRAME, "places box 0\n | 0 |")),
+        )
+        for function, good, bad in asks:
+            told = function(*good)
+            with self.assertRaises(errors.BoxError):
+                function(*bad)
+            self.assertEqual(function(*good), told)
+
+    def test_lists_inside_what_is_told_may_be_changed(self):
+        bent = with_group(bare(LOOP), 3, ((), (3,), ()))
+        for function, handed in ((checked, (LOOP, FRAME, bent)), (run, (LOOP, (3,), 100)),
+                                 (Witness(LOOP, FRAME, bent).verdict, ())):
+            told = function(*handed)
+            before = copy.deepcopy(told)
+            told[0].extend([5, 5])
+            self.assertEqual(function(*handed), before)
 
     def test_nothing_handed_in_is_kept(self):
         program = (0, 1, (("say", 0), ("call", 0, 0), ("say", 0)))

@@ -130,6 +130,23 @@ class Interface(unittest.TestCase):
         self.assertEqual(told["marks", "walk"], ["program", "frame", "choice", "ways"])
         self.assertEqual(told["papers", "paper"], ["program", "frame", "choice"])
         self.assertEqual(told["papers", "shows"], ["program", "frame", "choice", "told"])
+        self.assertEqual(told["checking", "checked"], ["program", "frame", "choice"])
+        self.assertEqual(told["mends", "made"], ["program", "frame"])
+        self.assertEqual(told["mends", "least"], ["program", "frame", "choice", "most"])
+        self.assertEqual(told["mends", "renumbered"], ["program", "frame", "choice", "order"])
+        self.assertEqual(told["notes", "written"], ["program"])
+        self.assertEqual(told["notes", "written_choice"], ["program", "frame", "choice"])
+        self.assertEqual(told["notes", "read"], ["text"])
+        self.assertEqual(told["notes", "read_choice"], ["program", "frame", "text"])
+
+    def test_methods_stand_in_the_class_itself(self):
+        tree = ast.parse((PACKAGE / "keeping.py").read_text(encoding="utf-8"))
+        witness = next(node for node in tree.body if isinstance(node, ast.ClassDef) and node.name == "Witness")
+        told = {one.name: [arg.arg for arg in one.args.args] for one in witness.body if isinstance(one, ast.FunctionDef)}
+        self.assertEqual(told["__init__"], ["self", "program", "frame", "choice"])
+        self.assertEqual(told["change"], ["self", "number", "group"])
+        for name in ("choice", "paper", "verdict"):
+            self.assertEqual(told[name], ["self"])
 
 
 if __name__ == "__main__":

@@ -1,12 +1,18 @@
 """Many small programs and choices: what the functions tell must fit together, and fit a slow second telling."""
 
+import itertools
 import random
 import unittest
 
+from boxwitness.checking import checked
+from boxwitness.keeping import Witness
 from boxwitness.marks import walk
+from boxwitness.mends import least, made, renumbered
+from boxwitness.notes import read, read_choice, written, written_choice
 from boxwitness.papers import paper, shows
 from boxwitness.programs import names_of
 from boxwitness.runs import run, run_boxes
+from samples import with_group
 
 MAKERS = ("put", "copy", "add", "take", "less", "call")
 
@@ -180,6 +186,54 @@ def slow_walk(program, frame, choice, ways):
     return told
 
 
+def slow_checked(program, frame, choice):
+    """Point 7 told once more, over all states of marks, one row further at a time."""
+    rows = program[2]
+    front = {(0, SlowMarks.first(program, frame, choice[0]).plain()): []}
+    seen = set()
+    while front:
+        wrong = []
+        further = {}
+        for (at, plain), ways in front.items():
+            slow = SlowMarks(plain)
+            if slow.row(rows[at], frame, choice[1][at]) is False:
+                wrong.append((ways, at))
+            truths = [[False], [True]] if rows[at][0] == "if" else [[]]
+            numbers = {"go": [rows[at][-1]], "if": [at + 1, rows[at][-1]], "end": [len(rows)]}.get(rows[at][0], [at + 1])
+            for more, number in zip(truths, numbers):
+                state = (number, slow.plain())
+                if number < len(rows) and state not in seen and state not in front:
+                    further[state] = min(ways + more, further.get(state, ways + more))
+        if wrong:
+            return min(wrong)
+        seen.update(front)
+        front = further
+    return None
+
+
+def slow_least(program, frame, choice, most):
+    """Point 11 told once more, by trying all lists that are few enough."""
+    mends = [
+        (row, which, box) for row, group in enumerate(choice[1])
+        for which in range(len(group[1])) for box in range(frame[0])
+    ]
+    for many in range(most + 1):
+        mending = []
+        for told in itertools.combinations(mends, many):
+            groups = [[ahead, list(boxes), behind] for ahead, boxes, behind in choice[1]]
+            for row, which, box in told:
+                groups[row][1][which] = box
+            other = (choice[0], tuple((ahead, tuple(boxes), behind) for ahead, boxes, behind in groups))
+            differing = sum(
+                one != two for old, new in zip(choice[1], other[1]) for one, two in zip(old[1], new[1])
+            )
+            if differing == many and slow_paper(program, frame, other)[1]:
+                mending.append(sorted(told))
+        if mending:
+            return min(mending)
+    return None
+
+
 class Together(unittest.TestCase):
     def test_walk(self):
         chance = random.Random(1)
@@ -217,6 +271,114 @@ class Together(unittest.TestCase):
                             self.assertTrue(all(set(one) <= set(two) for one, two in zip(part, most)))
         self.assertGreater(shown, 100)
 
+    def test_checked(self):
+        chance = random.Random(5)
+        told_so = {"say": 0, "if": 0, None: 0}
+        longest = 0
+        for turn in range(3000):
+            case = some_case(chance)
+            with self.subTest(case=case):
+                told = checked(*case)
+                self.assertEqual(told, slow_checked(*case))
+                told_so[told and case[0][2][told[1]][0]] += 1
+                longest = max(longest, len(told[0]) if told else 0)
+        self.assertGreater(min(told_so.values()), 100)
+        self.assertGreater(longest, 2)
+
+    def test_paper_is_shown_just_where_checked_lets_by(self):
+        chance = random.Random(6)
+        for turn in range(1500):
+            case = some_case(chance)
+            with self.subTest(case=case):
+                self.assertIs(shows(*case, paper(*case)), checked(*case) is None)
+
+    def test_walk_along_the_way_that_checked_tells(self):
+        chance = random.Random(7)
+        for turn in range(3000):
+            program, frame, choice = some_case(chance)
+            told = checked(program, frame, choice)
+            if told is None:
+                continue
+            ways, row = told
+            with self.subTest(case=(program, frame, choice)):
+                if program[2][row][0] == "if":
+                    # Along the way all are the same up to the if, which walk tells once there is a truth for it.
+                    self.assertTrue(all(same for at, same in walk(program, frame, choice, ways)))
+                    ways = ways + [False]
+                walked = walk(program, frame, choice, ways)
+                first = [same for at, same in walked].index(False)
+                self.assertEqual(walked[first], (row, False))
+
+    def test_least(self):
+        chance = random.Random(8)
+        told_so = {None: 0, 0: 0, 1: 0, 2: 0}
+        for turn in range(700):
+            program, frame, choice = some_case(chance)
+            if len(program[2]) > 6 or not any(group[1] for group in choice[1]):
+                continue
+            if checked(program, frame, choice) is None:
+                choice = self.bent_boxes(chance, frame, choice)
+            for most in (0, 1, 2):
+                with self.subTest(case=(program, frame, choice), most=most):
+                    told = least(program, frame, choice, most)
+                    self.assertEqual(told, slow_least(program, frame, choice, most))
+            told_so[None if told is None else len(told)] += 1
+        self.assertGreater(min(told_so.values()), 5)
+
+    def bent_boxes(self, chance, frame, choice):
+        """The choice with none to three boxes told anyhow."""
+        for again in range(chance.randint(0, 3)):
+            number = chance.choice([at for at, group in enumerate(choice[1]) if group[1]])
+            ahead, boxes, behind = choice[1][number]
+            which = chance.randrange(len(boxes))
+            boxes = boxes[:which] + (chance.randrange(frame[0]),) + boxes[which + 1:]
+            choice = with_group(choice, number, (ahead, boxes, behind))
+        return choice
+
+    def test_made_is_let_by_where_all_names_are_params(self):
+        chance = random.Random(9)
+        for turn in range(500):
+            params, names, rows = some_program(chance)
+            program = (names, names, rows)
+            boxes = chance.randint(3, 6)
+            frame = (boxes, names, tuple(box for box in range(boxes) if chance.random() < 0.5))
+            with self.subTest(program=program, frame=frame):
+                self.assertIsNone(checked(program, frame, made(program, frame)))
+
+    def test_renumbered(self):
+        chance = random.Random(10)
+        for turn in range(500):
+            program, frame, choice = some_case(chance)
+            order = tuple(chance.sample(range(frame[0]), frame[0]))
+            back = tuple(order.index(box) for box in range(frame[0]))
+            with self.subTest(case=(program, frame, choice), order=order):
+                told = renumbered(program, frame, choice, order)
+                self.assertEqual(checked(program, *told), checked(program, frame, choice))
+                self.assertEqual(renumbered(program, *told, back), (frame, choice))
+
+    def test_what_is_written_is_read_to_the_same(self):
+        chance = random.Random(11)
+        for turn in range(500):
+            program, frame, choice = some_case(chance)
+            with self.subTest(case=(program, frame, choice)):
+                self.assertEqual(read(written(program)), program)
+                self.assertEqual(read_choice(program, frame, written_choice(program, frame, choice)), choice)
+
+    def test_a_witness_after_changes(self):
+        chance = random.Random(12)
+        for turn in range(200):
+            program, frame, choice = some_case(chance)
+            witness = Witness(program, frame, choice)
+            for again in range(5):
+                number = chance.randrange(len(program[2]))
+                group = some_choice(chance, program, frame)[1][number]
+                witness.change(number, group)
+                choice = with_group(choice, number, group)
+                with self.subTest(case=(program, frame, choice)):
+                    self.assertEqual(witness.choice(), choice)
+                    self.assertEqual(witness.paper(), paper(program, frame, choice))
+                    self.assertEqual(witness.verdict(), checked(program, frame, choice))
+
     def bent(self, chance, program, part):
         """A part that now and then tells something else."""
         if part is None or chance.random() < 0.7:
@@ -232,7 +394,7 @@ class Together(unittest.TestCase):
         let_by = 0
         for turn in range(1500):
             program, frame, choice = some_case(chance)
-            if not shows(program, frame, choice, paper(program, frame, choice)):
+            if checked(program, frame, choice) is not None:
                 continue
             let_by += 1
             for again in range(3):
